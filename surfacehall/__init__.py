@@ -1,0 +1,1 @@
+"""Surfacehall: many draw on one screen, through a house."""
