@@ -65,7 +65,8 @@ class Beats(unittest.TestCase):
 class Shown(unittest.TestCase):
     def test_by_names_rising_each_once(self):
         house = house_of(2)
-        do(house, 0, *box(7, 0, 0, 1, 1, 1, rank=1), *box(2, 0, 0, 1, 1, 1, rank=5), *box(5, 0, 0, 1, 1, 1), ("show", 2))
+        do(house, 0, *box(7, 0, 0, 1, 1, 1, rank=1), *box(2, 0, 0, 1, 1, 1, rank=5), *box(5, 0, 0, 1, 1, 1))
+        do(house, 0, ("show", 2))
         do(house, 1, *box(9, 0, 0, 1, 1, 1), ("make", 0))
         self.assertEqual(house.heard(0), [])
         house.beat()

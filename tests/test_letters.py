@@ -25,7 +25,8 @@ class Pending(unittest.TestCase):
         self.assertEqual(self.looks(), ["......"] * 4)
 
     def test_a_new_surface_has_rank_0(self):
-        self.do(*box(3, 0, 0, 1, 1, 3), ("make", 5), ("show", 5), *box(9, 0, 0, 1, 1, 2), *box(0, 0, 0, 1, 1, 2, rank=1))
+        self.do(*box(3, 0, 0, 1, 1, 3), *box(9, 0, 0, 1, 1, 2), *box(0, 0, 0, 1, 1, 2, rank=1))
+        self.do(("make", 5), ("show", 5))
         self.assertEqual([row[1] for row in self.house.standing()], [3, 5, 9, 0])
 
     def test_size_is_pending(self):

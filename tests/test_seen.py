@@ -115,7 +115,8 @@ class Places(unittest.TestCase):
 
     def test_a_part_may_be_on_the_screen_while_its_top_is_off(self):
         house = house_of(1, 3, 1)
-        do(house, 0, *box(0, -20, -20, 1, 1, 1), *part(1, 0, 20, 20, 1, 1, 2), *part(2, 1, 20, 20, 1, 1, 2), ("show", 0))
+        do(house, 0, *box(0, -20, -20, 1, 1, 1), *part(1, 0, 20, 20, 1, 1, 2), *part(2, 1, 20, 20, 1, 1, 2))
+        do(house, 0, ("show", 0))
         self.assertEqual(looks(house), "2..")
         self.assertEqual(house.standing()[2], (0, 2, 20, 20, 1, 1))
 
