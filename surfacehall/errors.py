@@ -10,7 +10,7 @@ class BadSize(HallError):
 
 
 class TooMany(HallError):
-    """There are as many clients as there can be."""
+    """There are more clients, or lists of letters, than there can be."""
 
 
 class NoClient(HallError):

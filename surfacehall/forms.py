@@ -16,6 +16,7 @@ LETTERS = {
     "let": (),
 }
 LAST_FINGER = 4
+MOST_CLIENTS = 5
 
 
 def is_within(value, least, greatest):

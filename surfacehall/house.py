@@ -3,12 +3,10 @@
 from surfacehall.client import Client
 from surfacehall.deeds import do_first, fell
 from surfacehall.errors import BadKey, BadLetter, BadTouch, NoClient, TooMany
-from surfacehall.forms import is_letter, is_touch, is_within
+from surfacehall.forms import MOST_CLIENTS, is_letter, is_touch, is_within
 from surfacehall.hands import Hands
 from surfacehall.laying import layers
 from surfacehall.screen import Screen
-
-MOST_CLIENTS = 5
 
 
 class House:

@@ -11,6 +11,10 @@ HOUSE = {
     "rest": [], "letters": ["client"], "fall": ["client"], "standing": [], "beat": [], "screen": [],
     "heard": ["client"], "touch": ["what"], "key": ["number"],
 }
+FUNCTIONS = {
+    "alone.py": {"at_rest": ["wide", "high", "books"]},
+    "notes.py": {"written": ["books"], "read": ["text"]},
+}
 ERRORS = ("HallError", "BadSize", "TooMany", "NoClient", "BadLetter", "BadTouch", "BadKey", "BadText")
 ALLOWED = (
     "len range enumerate zip min max sum abs sorted reversed int str bool list tuple dict set isinstance ord repr any "
@@ -48,6 +52,16 @@ class Interface(unittest.TestCase):
         }
         for name, handed in HOUSE.items():
             self.assertEqual(methods.get(name), handed, name)
+
+    def test_functions(self):
+        for file, functions in FUNCTIONS.items():
+            found = {
+                node.name: [each.arg for each in node.args.args]
+                for node in tree(file).body
+                if isinstance(node, ast.FunctionDef)
+            }
+            for name, handed in functions.items():
+                self.assertEqual(found.get(name), handed, name)
 
 
 class Form(unittest.TestCase):

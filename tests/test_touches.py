@@ -184,6 +184,11 @@ class BadTouches(unittest.TestCase):
         self.house.touch(("up", 2))
         self.check(("move", 2, 0, 0), ("up", 2))
 
+    def test_other_words_of_a_finger_that_is_down(self):
+        self.house.touch(("down", 2, 0, 0))
+        self.check(("press", 2, 0, 0), ("", 2, 0, 0), ("Up", 2), ("up", 2, 0, 0), ("moved", 2, 1, 1), ("move", 2))
+        self.house.touch(("move", 2, 1, 1))
+
     def test_a_finger_with_nobody_is_down_too(self):
         house = house_of(1, 2, 2)
         house.touch(("down", 0, 0, 0))

@@ -1,8 +1,9 @@
-"""Promises 1 and 3: the house takes letters in any weaving, and the screen at rest is the same."""
+"""Promises 1, 3 and 12: whatever the weaving, behind rest and a beat the screen is the one at rest."""
 
 import random
 import unittest
 
+from surfacehall.alone import at_rest
 from surfacehall.forms import LETTERS
 from surfacehall.house import House
 
@@ -19,15 +20,14 @@ def some_letter(chance):
     return (word, *numbers)
 
 
-def good_rows(chance):
-    """Tell letters for each of three clients that nobody falls by, but for the last one of client 2."""
-    rows = [[], [], []]
+def good_rows(chance, clients):
+    """Tell letters for each of so many clients that nobody falls by."""
+    rows = [[] for _ in range(clients)]
     for row in rows:
         while len(row) < 60:
             letter = some_letter(chance)
             if stays(row + [letter]):
                 row.append(letter)
-    rows[2].append(("paint", 0, 11, 7, 12, 8, 1))
     return rows
 
 
@@ -41,32 +41,25 @@ def stays(letters):
     return house.clients() == [0]
 
 
-def at_rest(rows, clients):
-    """Tell the screen by these clients' letters alone, taken at once."""
-    house = House(6, 4)
-    for client in range(3):
-        house.join()
-        for letter in rows[client] if client in clients else []:
-            house.tell(client, letter)
-    house.rest()
-    house.beat()
-    return house.screen()
+def woven(rows, chance, falling=()):
+    """Tell a house with these rows, taken in some weaving with beats, touches and keys.
 
-
-def woven(rows, chance):
-    """Tell a house with these rows, taken in some weaving with beats, touches and keys."""
+    Some clients fall on the way, when they told about half of their row.
+    """
     house = House(6, 4)
-    for _ in range(3):
+    for _ in rows:
         house.join()
     waiting = [list(row) for row in rows]
-    while any(waiting):
-        there = house.clients()
-        client = chance.choice(there)
+    while any(waiting[client] for client in house.clients()):
+        client = chance.choice(house.clients())
         if waiting[client]:
             house.tell(client, waiting[client].pop(0))
         if chance.random() < 0.5:
-            house.take(chance.choice(there))
+            house.take(chance.choice(house.clients()))
         disturb(house, chance)
+        for client in falling:
+            if client in house.clients() and len(waiting[client]) < len(rows[client]) // 2:
+                house.fall(client)
     house.rest()
     return house
 
@@ -82,20 +75,67 @@ def disturb(house, chance):
         house.touch(chance.choice((("up", finger), ("move", finger, 0, 0))))
 
 
+def told_by(rows, clients):
+    """Tell the rows of these clients, and nothing for the others."""
+    return [row if client in clients else [] for client, row in enumerate(rows)]
+
+
 class Weaving(unittest.TestCase):
-    def test_the_screen_is_the_same_by_any_weaving(self):
+    def check(self, house, rows, clients):
+        """Check a house at rest, with these clients there, and tell how many surfaces are seen."""
+        self.assertEqual(house.clients(), clients)
+        before = house.screen()
+        for x, y, mark in house.beat():
+            self.assertNotEqual(before[y][x], mark)
+            before[y][x] = mark
+        self.assertEqual(house.screen(), before)
+        self.assertEqual(house.screen(), at_rest(6, 4, told_by(rows, clients)))
+        return len(house.standing())
+
+    def test_nobody_falls(self):
         seen = 0
-        for seed in range(25):
+        for seed in range(12):
             chance = random.Random(seed)
-            rows = good_rows(chance)
-            house = woven(rows, chance)
-            before = house.screen()
-            changed = house.beat()
-            for x, y, mark in changed:
-                self.assertNotEqual(before[y][x], mark)
-                before[y][x] = mark
-            self.assertEqual(house.clients(), [0, 1])
-            self.assertEqual(house.screen(), before)
-            self.assertEqual(house.screen(), at_rest(rows, [0, 1]))
-            seen += len(house.standing())
-        self.assertGreater(seen, 25)
+            rows = good_rows(chance, 5)
+            for _ in range(3):
+                seen += self.check(woven(rows, chance), rows, [0, 1, 2, 3, 4])
+        self.assertGreater(seen, 36)
+
+    def test_some_fall_by_a_letter(self):
+        seen = 0
+        for seed in range(12):
+            chance = random.Random(100 + seed)
+            rows = good_rows(chance, 4)
+            rows[3].append(("paint", 0, 11, 7, 12, 8, 1))
+            rows[1].insert(chance.randint(0, 60), ("tie", 0, 0))
+            seen += self.check(woven(rows, chance), rows, [0, 2])
+            # By the same letter who fell falls at rest, too.
+            self.assertEqual(at_rest(6, 4, rows), at_rest(6, 4, told_by(rows, [0, 2])))
+        self.assertGreater(seen, 12)
+
+    def test_some_fall_by_fall(self):
+        seen = 0
+        for seed in range(12):
+            chance = random.Random(200 + seed)
+            rows = good_rows(chance, 5)
+            rows[4].append(("tie", 0, 0))
+            seen += self.check(woven(rows, chance, falling=(0, 2)), rows, [1, 3])
+        self.assertGreater(seen, 12)
+
+    def test_nothing_waits_behind_rest(self):
+        chance = random.Random(300)
+        rows = good_rows(chance, 3)
+        house = House(6, 4)
+        for client, row in enumerate(rows):
+            house.join()
+            for letter in row:
+                house.tell(client, letter)
+        house.fall(1)
+        house.rest()
+        self.check(house, rows, [0, 2])
+
+    def test_all_fell(self):
+        rows = [[("make", 0), ("paint", 0, 0, 0, 1, 1, 3), ("show", 0)], [("drop", 0)]]
+        house = woven(rows, random.Random(400))
+        house.fall(0)
+        self.check(house, rows, [])
